@@ -1,0 +1,1 @@
+"""Effectonce: jobs over several machines, each one's effect once."""
