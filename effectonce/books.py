@@ -3,7 +3,7 @@
 from effectonce.commands import is_command
 from effectonce.errors import BadText
 from effectonce.reader import Reader
-from effectonce.values import LONGEST_TEXT, SIGNS, is_name, is_whole
+from effectonce.values import LONGEST_TEXT, SIGNS, is_between, is_name, is_whole
 
 LONGEST_LENGTH = 20
 MOST_TRIES = 5
@@ -25,10 +25,6 @@ SIGNS_BETWEEN = "+-*=<&|?~;"
 MOST_DIGITS = 9
 
 
-def _is_between(value, low, high):
-    return is_whole(value) and low <= value <= high
-
-
 def _is_pair(value, least):
     """Returns whether it is a name with an integer from least on."""
     if not isinstance(value, tuple) or len(value) != 2:
@@ -47,11 +43,11 @@ def is_job(value):
         return False
     if not isinstance(uses, tuple) or not all(_is_pair(pair, 1) for pair in uses):
         return False
-    if not _is_between(length, 1, LONGEST_LENGTH) or not _is_between(tries, 1, MOST_TRIES):
+    if not is_between(length, 1, LONGEST_LENGTH) or not is_between(tries, 1, MOST_TRIES):
         return False
-    if not _is_between(start, 0, LATEST_START):
+    if not is_between(start, 0, LATEST_START):
         return False
-    return _is_between(urgency, -GREATEST_URGENCY, GREATEST_URGENCY) and is_command(command)
+    return is_between(urgency, -GREATEST_URGENCY, GREATEST_URGENCY) and is_command(command)
 
 
 def is_book(value):

@@ -11,6 +11,11 @@ def is_whole(value):
     return isinstance(value, int) and not isinstance(value, bool)
 
 
+def is_between(value, low, high):
+    """Returns whether it is an integer from low to high."""
+    return is_whole(value) and low <= value <= high
+
+
 def is_value(value):
     """Returns whether it is None, an integer, or a short text of plain signs."""
     if isinstance(value, str):

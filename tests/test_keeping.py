@@ -4,13 +4,14 @@ import copy
 import random
 import unittest
 
-from effectonce import books, commands, meaning, orders, swaying, values, webs
+from effectonce import books, commands, days, lines, meaning, orders, plans, series, swaying, values, webs
 from effectonce.errors import JobError
+from tests.plan_oracles import random_order, random_work
 from tests.samples import ODD_VALUES, WEB, job, nested, random_book
 
 COMMAND = ("demand", ("attempt",), ("plus", ("result", "a"), ("value", 2)))
 JUDGES_OF_VALUES = (values.is_value, values.is_name, commands.is_command, books.is_job, books.is_book, books.read_command,
-                    books.read_job, books.read_book, webs.judge_book, webs.need_book)
+                    books.read_job, books.read_book, webs.judge_book, webs.need_book, days.is_calendar)
 
 
 def calls_with(book):
@@ -40,6 +41,36 @@ def calls_with(book):
         (swaying.rounds_of, book)]
 
 
+def calls_with_plans(chance):
+    """All functions on plans and lines."""
+    book = random_work(chance, 5)
+    plan = plans.list_plan(book, 2)
+    begins, line = tuple((name, begin) for name, _, begin in plan), lines.line_of(book, 2)
+    near = [list(plan), list(map(list, plan)), plan[:1] + ([nested(3, {})],) + plan[2:]]
+    return [
+        (plans.plan_length, book, plan), (plans.dealt, book, begins), (plans.job_order, book), (plans.list_plan, book, 2),
+        (plans.turn_plan, book, 2, random_order(chance, book)), (plans.least_plan, book, 2), (plans.longer_example,),
+        (lines.earliest, book), (lines.longest_line, book), (lines.least_bound, book, 2), (lines.line_of, book, 2),
+        (lines.line_bound, book, 2, line), (lines.judge_line, book, 2, plan, line), (lines.judge_line, book, 2, plan, list(line)),
+        (lines.judge_bound, book, 2, [3, ["work"]]), (lines.judge_bound, book, 2, (9, ("line", [["a"]]))),
+        (lines.judge_bound, book, 2, (10 ** 9, ("work",)))] + [(plans.judge_plan, book, 2, value) for value in [plan] + near]
+
+
+def calls_with_series():
+    """All functions on calendars and series."""
+    calendar = ("both", ("every", 4, 2, None), ("moved", ("list", (1, 5)), 3))
+    plain = days.plain_calendar(calendar)
+    one = ("day", calendar, 1, ("all", ("k",), ("plus", ("last",), ("result", "k")), (), 1, 1, 0))
+    some = [one, ("x", ("list", (3, 9)), 0, ("all", (), ("value", 1), (), 1, 1, 0))]
+    return [
+        (days.has_time, calendar, 4), (days.times_in, calendar, 0, 30), (days.next_time, calendar, 9), (days.count_times, calendar, 30),
+        (days.repeats, calendar), (days.plain_calendar, calendar), (days.first_unlike, calendar, one[1]), (days.is_endless, calendar),
+        (days.first_unlike, calendar, ("list", ())), (days.calendar_of, plain), (series.made_name, "day", 7), (series.made_name, "day", 17576),
+        (series.made_number, "day", "dayaab"), (series.made_jobs, one, 3, 40), (series.made_book, (), (job("k"),), some, 20),
+        (series.made_book, (), (), some, 20), (series.made_book, (), (job("k"), job("k")), some, 20), (series.makes, some, "xaab"),
+        (series.makes, some, "xaac"), (days.is_calendar, ["every", 4, 2, None]), (days.is_calendar, ("both", [nested(3, {})], {}))]
+
+
 def answer(call):
     """What a call returns, or the error that it raises, as a value."""
     try:
@@ -60,6 +91,7 @@ class Keeping(unittest.TestCase):
         chance = random.Random(51)
         books_here = [WEB] + [random_book(chance, many) for many in (1, 5, 12)]
         calls = [call for book in books_here for call in calls_with(book)]
+        calls += calls_with_plans(chance) + calls_with_plans(chance) + calls_with_series()
         odd = ODD_VALUES + ([list(WEB)], (WEB[0], [WEB[1]]), [nested(13, {"a": []})])
         return calls + [(judge, value) for judge in JUDGES_OF_VALUES for value in odd]
 
@@ -90,8 +122,8 @@ class Keeping(unittest.TestCase):
                 self.assertEqual([each for each in lists_in(answer(call)[1]) if answer(call)[0] == "returns"], [])
 
     def test_answers_are_yes_and_no(self):
-        for judge in (values.is_value, values.is_name, commands.is_command, books.is_job, books.is_book):
-            for value in ODD_VALUES + (WEB, WEB[1][0], COMMAND):
+        for judge in (values.is_value, values.is_name, commands.is_command, books.is_job, books.is_book, days.is_calendar):
+            for value in ODD_VALUES + (WEB, WEB[1][0], COMMAND, ("every", 1, 1, None)):
                 self.assertIn(repr(judge(value)), ("True", "False"))
 
 
