@@ -81,6 +81,11 @@ def units_of(book, thing):
     return None
 
 
+def used_units(jobs, thing):
+    """Returns how many units of a thing these jobs use together."""
+    return sum(many for job in jobs for name, many in job[4] if name == thing)
+
+
 def value_text(value):
     """Returns the text of a value, as it stands in commands."""
     if value is None:

@@ -1,6 +1,6 @@
 """Commands: what jobs make of results, worked out without recursion, as they may be deep."""
 
-from effectonce.stacks import taken_off
+from effectonce.stacks import is_made_of, taken_off
 from effectonce.values import is_name, is_true, is_value, is_whole, kept_text, rank
 
 MOST_PARTS = 40
@@ -27,16 +27,7 @@ def inner_parts(command):
 
 def is_command(value):
     """Returns whether it is a command of at most forty parts."""
-    many = 0
-    waiting = [value]
-    while waiting:
-        part = waiting.pop()
-        many += 1
-        # A command with too many parts may have far too many to look at them all.
-        if many > MOST_PARTS or not _has_form(part):
-            return False
-        waiting.extend(inner_parts(part))
-    return True
+    return is_made_of(value, MOST_PARTS, _has_form, inner_parts)
 
 
 def _has_form(part):

@@ -2,6 +2,7 @@
 
 from math import lcm
 
+from effectonce.stacks import is_made_of
 from effectonce.values import is_between
 from effectonce.webs import ascends
 
@@ -21,16 +22,7 @@ JOIN = 1
 
 def is_calendar(value):
     """Returns whether it is a calendar of at most twenty parts."""
-    many = 0
-    waiting = [value]
-    while waiting:
-        part = waiting.pop()
-        many += 1
-        # One with too many parts may have far too many to look at them all.
-        if many > MOST_PARTS or not _has_form(part):
-            return False
-        waiting.extend(_inner_calendars(part))
-    return True
+    return is_made_of(value, MOST_PARTS, _has_form, _inner_calendars)
 
 
 def _inner_calendars(part):
@@ -41,7 +33,7 @@ def _inner_calendars(part):
 
 def _has_form(part):
     """Returns whether a part is right but for the calendars within it."""
-    if not isinstance(part, tuple) or not part or not isinstance(part[0], str):
+    if not isinstance(part, tuple) or not part:
         return False
     word = part[0]
     if word == "every":
@@ -168,7 +160,7 @@ def repeats(c):
 def _least_period(marks):
     """Returns the least period of what goes round and round in these marks."""
     for q in range(1, len(marks)):
-        if len(marks) % q == 0 and marks[q:] + marks[:q] == marks:
+        if marks[q:] + marks[:q] == marks:
             return q
     return len(marks)
 

@@ -1,6 +1,6 @@
 """Plans: which job runs when, and on which machine."""
 
-from effectonce.books import job_of, names_of_jobs
+from effectonce.books import job_of, names_of_jobs, used_units
 from effectonce.orders import ranks
 from effectonce.values import is_whole
 
@@ -18,11 +18,6 @@ def running(book, begins, time):
 
 def _begins_of(plan):
     return {name: begin for name, _, begin in plan}
-
-
-def _used(jobs, thing):
-    """Returns how many units of a thing these jobs use together."""
-    return sum(many for job in jobs for name, many in job[4] if name == thing)
 
 
 def plan_length(book, plan):
@@ -73,7 +68,7 @@ def _units_fault(book, begins):
     for time in sorted(begins.values()):
         jobs = running(book, begins, time)
         for thing, units in book[0]:
-            if _used(jobs, thing) > units:
+            if used_units(jobs, thing) > units:
                 return ("units", time, thing)
     return None
 
@@ -95,8 +90,8 @@ def dealt(book, begins):
 def job_order(book):
     """Returns the tuple of all names, by urgency, the greatest first, then by rank, then by name."""
     rank_of = dict(ranks(book))
-    jobs = sorted(book[1], key=lambda job: (-job[8], rank_of[job[0]], job[0]))
-    return tuple(job[0] for job in jobs)
+    rows = sorted([(-job[8], rank_of[job[0]], job[0]) for job in book[1]])
+    return tuple(name for _, _, name in rows)
 
 
 def _dealt_table(book, begins):
@@ -109,7 +104,7 @@ def _has_room(book, m, job, begins, time):
     later = [begin for begin in begins.values() if time < begin < time + job[5]]
     for at in [time] + later:
         jobs = running(book, begins, at) + [job]
-        if len(jobs) > m or not all(_used(jobs, thing) <= units for thing, units in book[0]):
+        if len(jobs) > m or not all(used_units(jobs, thing) <= units for thing, units in book[0]):
             return False
     return True
 
@@ -158,7 +153,7 @@ def least_plan(book, m):
     for _ in book[1]:
         tables = sorted({longer for table in tables for longer in _with_one_more(book, m, table)})
     plans = [dealt(book, table) for table in tables]
-    return min(plans, key=lambda plan: (plan_length(book, plan), plan))
+    return min([(plan_length(book, plan), plan) for plan in plans])[1]
 
 
 def _with_one_more(book, m, table):

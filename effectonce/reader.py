@@ -1,10 +1,15 @@
 """Reads texts sign by sign, and tells where no text of the language goes on."""
 
+from effectonce.digits import DIGITS, number_of
 from effectonce.errors import BadText
 from effectonce.values import LETTERS, LONGEST_NAME
 
-DIGITS = "0123456789"
 DIGITS_BUT_NOUGHT = "123456789"
+
+
+def is_plain(text):
+    """Returns whether all its signs are some of those from the blank to ~."""
+    return all(" " <= sign <= "~" for sign in text)
 
 
 class Reader:
@@ -41,6 +46,17 @@ class Reader:
             self.place += 1
         return self.text[first:self.place]
 
+    def take_plain(self, many):
+        """Takes just so many signs, whichever from the blank to ~, and returns them."""
+        text = self.text[self.place:self.place + many]
+        for sign in text:
+            if not is_plain(sign):
+                raise BadText(self.place)
+            self.place += 1
+        if len(text) < many:
+            raise BadText(self.place)
+        return text
+
     def take_name(self):
         """Takes a name."""
         return self.take_sign(LETTERS) + self.take_run(LETTERS, LONGEST_NAME - 1)
@@ -59,7 +75,7 @@ class Reader:
         return -self._take_above_nought(most)
 
     def _take_above_nought(self, most):
-        return int(self.take_sign(DIGITS_BUT_NOUGHT) + self.take_run(DIGITS, most - 1))
+        return number_of(self.take_sign(DIGITS_BUT_NOUGHT) + self.take_run(DIGITS, most - 1))
 
     def take_end(self):
         """Raises BadText if something stands behind what was read."""

@@ -7,3 +7,21 @@ def taken_off(rows, many):
     members = rows[first:]
     del rows[first:]
     return members
+
+
+def is_made_of(value, most, has_form, inner_parts):
+    """Returns whether it, and all parts within it, have the form, and are no more than most.
+
+    has_form tells of a part whether it is right but for the parts that stand directly in it;
+    inner_parts returns these.
+    """
+    many = 0
+    waiting = [value]
+    while waiting:
+        part = waiting.pop()
+        many += 1
+        # What has too many parts may have far too many to look at them all.
+        if many > most or not has_form(part):
+            return False
+        waiting.extend(inner_parts(part))
+    return True

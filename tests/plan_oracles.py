@@ -154,7 +154,9 @@ def random_work(chance, many, things=True, starts=12, thick=30, longest=6):
     for k, name in enumerate(order):
         needs = [other for other in order[:k] if chance.randrange(100) < thick]
         uses = [(thing, chance.randint(1, units)) for thing, units in there if units and chance.randrange(2)]
-        jobs[name] = job(name, sorted(needs), ("value", 1), "all", uses, chance.randint(1, longest), 1,
+        # Plans look at no mode, no command and no tries.
+        mode, command, tries = chance.choice(("all", "ended")), ("value", chance.randrange(9)), chance.randint(1, 5)
+        jobs[name] = job(name, sorted(needs), command, mode, uses, chance.randint(1, longest), tries,
                          chance.randint(0, starts) if chance.randrange(2) else 0, chance.choice((0, 0, 3, -3)))
     return book(*[jobs[name] for name in names], things=there)
 

@@ -156,7 +156,7 @@ class Repeating(unittest.TestCase):
                 (("every", 6, 3, None), (0, 6)), (("every", 6, 5, None), (0, 6)), (("every", 6, 6, None), (1, 6)),
                 (("every", 6, 8, None), (3, 6)), (("every", 1, 5, None), (5, 1)), (("every", 6, 3, 20), (16, 1)),
                 (("every", 6, 3, 2), (0, 1)), (NEVER, (0, 1)), (("list", (4,)), (5, 1)), (("list", (0, 7)), (8, 1)),
-                (("both", ("every", 4, 0, None), ("every", 4, 2, None)), (0, 2)), 
+                (("both", ("every", 4, 0, None), ("every", 4, 2, None)), (0, 2)),
                 (("both", EVEN, ("list", (0, 2))), (0, 2)), (("common", EVEN, ("every", 3, 0, None)), (1, 6)),
                 (("without", EVEN, EVEN), (0, 1)), (("without", ("every", 1, 0, None), ("every", 2, 0, None)), (0, 2)),
                 (("without", ("every", 1, 0, None), ("list", (12,))), (13, 1)), (("moved", ("every", 1, 0, None), 7), (7, 1)),

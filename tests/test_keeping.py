@@ -4,14 +4,17 @@ import copy
 import random
 import unittest
 
-from effectonce import books, commands, days, lines, meaning, orders, plans, series, swaying, values, webs
+from effectonce import (books, commands, days, disks, letters, lines, meaning, orders, plans, seals, series, store, swaying,
+                        values, webs)
 from effectonce.errors import JobError
+from tests.letter_samples import LETTERS
 from tests.plan_oracles import random_order, random_work
 from tests.samples import ODD_VALUES, WEB, job, nested, random_book
 
 COMMAND = ("demand", ("attempt",), ("plus", ("result", "a"), ("value", 2)))
 JUDGES_OF_VALUES = (values.is_value, values.is_name, commands.is_command, books.is_job, books.is_book, books.read_command,
-                    books.read_job, books.read_book, webs.judge_book, webs.need_book, days.is_calendar)
+                    books.read_job, books.read_book, webs.judge_book, webs.need_book, days.is_calendar, letters.judge_letter,
+                    letters.is_letter, letters.read_letter)
 
 
 def calls_with(book):
@@ -71,6 +74,36 @@ def calls_with_series():
         (series.makes, some, "xaac"), (days.is_calendar, ["every", 4, 2, None]), (days.is_calendar, ("both", [nested(3, {})], {}))]
 
 
+def calls_with_letters():
+    """All functions on words, seals, disks and letters."""
+    words = [("tick",), (3, ("take", 1)), [1, "x"][1], (None, True)]
+    disk = disks.written("", words) + "3:i1"
+    bad = seals.records(["i1;", "i01;"])
+    near = [("no", 1, ["take", 1]), ("told", 1, 0, 0, 0, [("a", {})], (), ()), ["take", 1], ("end", 0, "a", 1, 1, ["failed"])]
+    calls = [
+        (seals.word_text, (1, ("a", None))), (seals.read_word, "(i1;(t1:aN))"), (seals.read_word, "(i1;"), (seals.check_of, "ab"),
+        (seals.sealed, "ab"), (seals.records, ["ab", "", "x"]), (seals.read_records, disk), (disks.words_on, disk), (disks.words_on, bad),
+        (disks.mended, disk), (disks.written, disk, words), (disks.torn, disk, words, 9), (letters.unanswered, list(LETTERS), list(LETTERS[6:])),
+        (letters.unanswered, list(LETTERS), [])]
+    calls += [(disks.is_record, who, value) for who in ("store", "keeper", "machine") for value in near + words]
+    calls += [(judge, value) for judge in (letters.judge_letter, letters.is_letter, letters.read_letter) for value in near]
+    for letter in LETTERS:
+        calls += [(letters.goes_to, letter), (letters.letter_text, letter), (letters.fields_of, letter), (letters.is_answer, LETTERS[1], letter)]
+    return calls
+
+
+def calls_with_stores():
+    """All functions on stores; what is told of a store is none, but for what makes another one."""
+    here = WEB
+    records = [(0, ("take", 1)), ("tick",), (1, ("grant", 1, "a", 1, 0)), (1, ("end", 0, "a", 1, 1, ("done", 3)))]
+    one = store.store_again(here, records)
+    told = [(each, one, name) for name in "abf" for each in (store.has_ended, store.outcome_in, store.results_in, store.attempt_in,
+                                                             store.bars_grant, store.bar_need)]
+    return told + [(store.bars_grant, one, "z"), (store.free_units, one), (store.still_open, one)], [
+        (store.new_store, here), (store.ticked, one), (store.store_again, here, records)] + [
+        (store.store_hears, one, letter) for letter in LETTERS[:6] + (("grant", 1, "c", 5, 0), ("take", 2))]
+
+
 def answer(call):
     """What a call returns, or the error that it raises, as a value."""
     try:
@@ -91,12 +124,13 @@ class Keeping(unittest.TestCase):
         chance = random.Random(51)
         books_here = [WEB] + [random_book(chance, many) for many in (1, 5, 12)]
         calls = [call for book in books_here for call in calls_with(book)]
-        calls += calls_with_plans(chance) + calls_with_plans(chance) + calls_with_series()
+        calls += calls_with_plans(chance) + calls_with_plans(chance) + calls_with_series() + calls_with_letters()
+        calls += calls_with_stores()[0]
         odd = ODD_VALUES + ([list(WEB)], (WEB[0], [WEB[1]]), [nested(13, {"a": []})])
         return calls + [(judge, value) for judge in JUDGES_OF_VALUES for value in odd]
 
     def test_no_argument_is_modified(self):
-        for call in self.calls():
+        for call in self.calls() + calls_with_stores()[1]:
             before = copy.deepcopy(call[1:])
             answer(call)
             self.assertEqual(repr(call[1:]), repr(before), call[0])
@@ -112,8 +146,17 @@ class Keeping(unittest.TestCase):
                 each.clear()
             self.assertEqual(answer(call), due, call[0])
 
+    def test_a_store_that_is_returned_is_no_other(self):
+        # Stores may share what they are made of, but not the fields themselves.
+        for call in calls_with_stores()[1]:
+            got = answer(call)[1]
+            made = got[0] if isinstance(got, tuple) else got
+            self.assertNotIn(id(made), [id(each) for each in call[1:]])
+            if isinstance(got, tuple):
+                self.assertEqual(lists_in(got[1]), [])
+
     def test_equal_calls_give_equal_answers(self):
-        for call in self.calls():
+        for call in self.calls() + calls_with_stores()[1]:
             self.assertEqual(answer(call), answer((call[0],) + copy.deepcopy(call[1:])))
 
     def test_only_chains_are_lists(self):
@@ -122,8 +165,9 @@ class Keeping(unittest.TestCase):
                 self.assertEqual([each for each in lists_in(answer(call)[1]) if answer(call)[0] == "returns"], [])
 
     def test_answers_are_yes_and_no(self):
-        for judge in (values.is_value, values.is_name, commands.is_command, books.is_job, books.is_book, days.is_calendar):
-            for value in ODD_VALUES + (WEB, WEB[1][0], COMMAND, ("every", 1, 1, None)):
+        for judge in (values.is_value, values.is_name, commands.is_command, books.is_job, books.is_book, days.is_calendar,
+                      letters.is_letter, lambda value: disks.is_record("store", value)):
+            for value in ODD_VALUES + (WEB, WEB[1][0], COMMAND, ("every", 1, 1, None), ("ask", 1), ("tick",), (3, ("ask", 1))):
                 self.assertIn(repr(judge(value)), ("True", "False"))
 
 

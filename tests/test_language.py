@@ -34,6 +34,13 @@ INTERFACE = {
             "plain_calendar(c); first_unlike(c, d); is_endless(c); calendar_of(plain)",
     "series": "made_name(stem, number); made_number(stem, name); made_jobs(series, low, high); "
               "made_book(things, jobs, some, high); makes(some, name)",
+    "store": "new_store(book); has_ended(store, job); outcome_in(store, job); results_in(store, job); attempt_in(store, job); "
+             "free_units(store); still_open(store); bars_grant(store, job); bar_need(store, job); ticked(store); "
+             "store_hears(store, letter); store_again(book, records)",
+    "seals": "word_text(word); read_word(text); check_of(text); sealed(text); records(texts); read_records(text)",
+    "disks": "words_on(disk); mended(disk); written(disk, words); torn(disk, words, keep); is_record(who, value)",
+    "letters": "judge_letter(value); is_letter(value); goes_to(letter); letter_text(letter); read_letter(value); "
+               "is_answer(letter, answer); unanswered(sent, heard); fields_of(letter)",
 }
 ERRORS = {"JobError": None, "BadText": ["place"], "BadBook": ["number", "word"], "BadScript": ["number"],
           "BadDisk": ["place"], "NothingDone": None, "TooMany": None, "NameTwice": ["name"]}
