@@ -1,6 +1,7 @@
 """Jobs and books: what has their form, and the language in which they are written."""
 
 from effectonce.commands import is_command
+from effectonce.digits import signed_digits
 from effectonce.errors import BadText
 from effectonce.reader import Reader
 from effectonce.values import LONGEST_TEXT, SIGNS, is_between, is_name, is_whole
@@ -86,11 +87,17 @@ def used_units(jobs, thing):
     return sum(many for job in jobs for name, many in job[4] if name == thing)
 
 
+def units_left(book, names):
+    """Returns the tuple of the pairs of each thing and the units that jobs of these names leave of it."""
+    jobs = [job for job in book[1] if job[0] in names]
+    return tuple((thing, units - used_units(jobs, thing)) for thing, units in book[0])
+
+
 def value_text(value):
     """Returns the text of a value, as it stands in commands."""
     if value is None:
         return "()"
-    return f'"{value}"' if isinstance(value, str) else str(value)
+    return f'"{value}"' if isinstance(value, str) else signed_digits(value)
 
 
 def command_text(command):

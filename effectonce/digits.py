@@ -16,6 +16,11 @@ def digits_of(number):
     return "".join(pieces[::-1])
 
 
+def signed_digits(number):
+    """Returns the digits of an integer, - ahead of one below 0."""
+    return "-" + digits_of(-number) if number < 0 else digits_of(number)
+
+
 def number_of(digits):
     """Returns the integer from 0 on that has these digits."""
     first = len(digits) % PIECE

@@ -39,6 +39,16 @@ class Reader:
         for sign in word:
             self.take_sign(sign)
 
+    def take_one_of(self, words):
+        """Takes one of these words, none of which is a beginning of another one, and returns it."""
+        first = self.place
+        left = words
+        while left != [self.text[first:self.place]]:
+            at = self.place - first
+            sign = self.take_sign([word[at] for word in left])
+            left = [word for word in left if word[at] == sign]
+        return left[0]
+
     def take_run(self, signs, most):
         """Takes such signs as long as they go on, no more than most, and returns them."""
         first = self.place

@@ -1,6 +1,6 @@
 """Words written as texts, and texts sealed, so that what is cut short is told from what is whole."""
 
-from effectonce.digits import DIGITS, digits_of
+from effectonce.digits import DIGITS, signed_digits
 from effectonce.reader import Reader, is_plain
 
 CHECK_DIGITS = 5
@@ -41,8 +41,7 @@ def _single_text(word):
         return "F"
     if isinstance(word, str):
         return f"t{len(word)}:{word}"
-    sign = "-" if word < 0 else ""
-    return f"i{sign}{digits_of(abs(word))};"
+    return f"i{signed_digits(word)};"
 
 
 def read_word(text):

@@ -25,3 +25,20 @@ def is_made_of(value, most, has_form, inner_parts):
             return False
         waiting.extend(inner_parts(part))
     return True
+
+
+def is_same(value, due):
+    """Returns whether any value equals one that is made of tuples, texts, integers and None.
+
+    True and False equal none of these, though Python's == takes them for 1 and 0.
+    """
+    waiting = [(value, due)]
+    while waiting:
+        part, told = waiting.pop()
+        if isinstance(told, tuple):
+            if not isinstance(part, tuple) or len(part) != len(told):
+                return False
+            waiting.extend([(part[k], told[k]) for k in range(len(told))])
+        elif isinstance(part, bool) or part != told:
+            return False
+    return True

@@ -1,6 +1,7 @@
 """The store: what was granted and what has ended, and how it answers letters."""
 
-from effectonce.books import job_of, names_of_jobs, used_units
+from effectonce.books import job_of, names_of_jobs, units_left
+from effectonce.tables import pairs_of, with_fields, without_key
 
 
 def new_store(book):
@@ -11,7 +12,8 @@ def new_store(book):
     }
 
 
-def _ends_of(store, job):
+def ends_of(store, job):
+    """Returns the tuple of the ends of a job."""
     return store["ends"].get(job, ())
 
 
@@ -22,35 +24,40 @@ def has_ended(store, job):
 
 def outcome_in(store, job):
     """Returns the outcome of a job, None if it has not ended."""
-    if job in store["barred"]:
-        return ("barred", store["barred"][job])
-    ends = _ends_of(store, job)
+    ends = ends_of(store, job)
     if ends and ends[-1][0] == "done":
         return ("done", len(ends), ends[-1][5])
     tries = job_of(store["book"], job)[6]
-    return ("failed", tries) if len(ends) >= tries else None
+    if len(ends) >= tries:
+        return ("failed", tries)
+    return ("barred", store["barred"][job]) if job in store["barred"] else None
 
 
-def _is_done(store, job):
+def is_done_in(store, job):
+    """Returns whether a job is done."""
     outcome = outcome_in(store, job)
     return outcome is not None and outcome[0] == "done"
+
+
+def has_come(store, mode, need):
+    """Returns whether a need has come to what a job of this mode waits for."""
+    return is_done_in(store, need) if mode == "all" else has_ended(store, need)
 
 
 def results_in(store, job):
     """Returns the ascending tuple of the pairs of each need and what it was done with, None if it is not done."""
     needs = job_of(store["book"], job)[2]
-    return tuple((need, _ends_of(store, need)[-1][5] if _is_done(store, need) else None) for need in needs)
+    return tuple((need, ends_of(store, need)[-1][5] if is_done_in(store, need) else None) for need in needs)
 
 
 def attempt_in(store, job):
     """Returns the number of the attempt that comes next."""
-    return len(_ends_of(store, job)) + 1
+    return len(ends_of(store, job)) + 1
 
 
 def free_units(store):
     """Returns the ascending tuple of the pairs of each thing and the units that no job holds."""
-    held = [job_of(store["book"], job) for job in store["holds"]]
-    return tuple((thing, units - used_units(held, thing)) for thing, units in store["book"][0])
+    return units_left(store["book"], store["holds"])
 
 
 def still_open(store):
@@ -70,7 +77,7 @@ def bars_grant(store, job):
     if told[7] > store["time"]:
         return ("early", told[7])
     for need in told[2]:
-        if not (_is_done(store, need) if told[1] == "all" else has_ended(store, need)):
+        if not has_come(store, told[1], need):
             return ("need", need)
     free = dict(free_units(store))
     for thing, units in told[4]:
@@ -85,30 +92,19 @@ def bar_need(store, job):
     if told[1] != "all" or has_ended(store, job):
         return None
     for need in told[2]:
-        if not _is_done(store, need):
+        if not is_done_in(store, need):
             return need if has_ended(store, need) else None
     return None
 
 
 def ticked(store):
     """Returns the store with its time greater by one."""
-    return _with(store, {"time": store["time"] + 1})
-
-
-def _with(table, more):
-    """Returns the dict with what stands in more, in the place of what stood there."""
-    changed = dict(table)
-    changed.update(more)
-    return changed
-
-
-def _without(table, job):
-    return {other: table[other] for other in table if other != job}
+    return with_fields(store, {"time": store["time"] + 1})
 
 
 def _written(store, fields):
     """Returns the store with these fields, which a letter writes."""
-    return _with(_with(store, fields), {"moment": store["moment"] + 1})
+    return with_fields(with_fields(store, fields), {"moment": store["moment"] + 1})
 
 
 def store_hears(store, letter):
@@ -150,7 +146,7 @@ def _hear_grant(store, letter):
         if bars_grant(store, job) is not None or fence <= store["fence"]:
             return store, None
         hold = (fence, machine, attempt_in(store, job), store["moment"] + 1, store["time"])
-        store = _written(store, {"fence": fence, "holds": _with(store["holds"], {job: hold})})
+        store = _written(store, {"fence": fence, "holds": with_fields(store["holds"], {job: hold})})
     return store, ("granted", epoch, job, fence, machine, hold[2], results_in(store, job))
 
 
@@ -159,7 +155,7 @@ def _hear_free(store, letter):
     hold = store["holds"].get(job)
     if hold is not None and hold[0] == fence:
         freed = sorted([*store["freed"], (fence, job, *hold[1:], store["moment"] + 1)])
-        store = _written(store, {"holds": _without(store["holds"], job), "freed": tuple(freed)})
+        store = _written(store, {"holds": without_key(store["holds"], job), "freed": tuple(freed)})
     if fence > store["fence"]:
         return store, None
     return store, ("freed", epoch, job, fence)
@@ -170,7 +166,7 @@ def _hear_bar(store, letter):
     if store["barred"].get(job) != need:
         if job_of(store["book"], job) is None or bar_need(store, job) != need:
             return store, None
-        store = _written(store, {"barred": _with(store["barred"], {job: need})})
+        store = _written(store, {"barred": with_fields(store["barred"], {job: need})})
     return store, ("barred", epoch, job)
 
 
@@ -180,14 +176,14 @@ def _hear_end(store, letter):
     if hold is not None and hold[:3] == (fence, machine, attempt):
         value = outcome[1] if outcome[0] == "done" else None
         end = (outcome[0], fence, hold[3], hold[4], store["moment"] + 1, value)
-        ends = _with(store["ends"], {job: _ends_of(store, job) + (end,)})
-        store = _written(store, {"holds": _without(store["holds"], job), "ends": ends})
-    stands = any(end[1] == fence for end in _ends_of(store, job))
+        ends = with_fields(store["ends"], {job: ends_of(store, job) + (end,)})
+        store = _written(store, {"holds": without_key(store["holds"], job), "ends": ends})
+    stands = any(end[1] == fence for end in ends_of(store, job))
     return store, ("ended" if stands else "refused", machine, job, fence)
 
 
 def _all_told(store):
-    tables = [tuple(sorted(store[field].items())) for field in ("holds", "ends", "barred")]
+    tables = [pairs_of(store[field]) for field in ("holds", "ends", "barred")]
     return ("told", store["epoch"], store["moment"], store["time"], store["fence"], *tables)
 
 
@@ -199,5 +195,5 @@ def store_again(book, records):
             store = ticked(store)
         else:
             time, letter = record
-            store = store_hears(_with(store, {"time": max(store["time"], time)}), letter)[0]
+            store = store_hears(with_fields(store, {"time": max(store["time"], time)}), letter)[0]
     return store

@@ -132,7 +132,20 @@ def grammar():
         + _spelled(" uses ") + ["things"] + _spelled(" length ") + ["number"] + _spelled(" tries ") + ["number"]
         + _spelled(" start ") + ["number"] + _spelled(" urgency ") + ["signed"] + _spelled(" does ") + ["command"]]
     rules["book"] = [_spelled("things ") + ["things"], ["book"] + _spelled("\n") + ["job"]]
+    _script_rules(rules)
     return {name: [tuple(rule) for rule in rules[name]] for name in rules}
+
+
+def _script_rules(rules):
+    """Events and scripts, but for the script without events, as no rule may be empty."""
+    _runs(rules, "long", DIGIT, 399)
+    above = [("sign", "123456789")]
+    rules["great"] = [_spelled("0"), above, above + ["long399"]]
+    rules["who"] = [_spelled("store"), _spelled("keeper"), _spelled("machine ") + ["great"]]
+    rules["tearable"] = [_spelled("tick"), _spelled("hear ") + ["great"], _spelled("work ") + ["great"], _spelled("back ") + ["who"]]
+    rules["event"] = [["tearable"], _spelled("keeper"), _spelled("again"), _spelled("lapse ") + ["name8"], _spelled("lose ") + ["great"],
+                      _spelled("double ") + ["great"], _spelled("fall ") + ["who"], _spelled("torn ") + ["great"] + _spelled(" ") + ["tearable"]]
+    rules["script"] = [["event"], ["script"] + _spelled("\n") + ["event"]]
 
 
 RULES = grammar()

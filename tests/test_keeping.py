@@ -4,17 +4,19 @@ import copy
 import random
 import unittest
 
-from effectonce import (books, commands, days, disks, letters, lines, meaning, orders, plans, seals, series, store, swaying,
-                        values, webs)
+from effectonce import (air, books, checker, commands, days, disks, keeper, letters, lines, machines, meaning, orders, plans, recovery, scripts, seals,
+                        series, store, swaying, values, webs, world)
+from effectonce.desk import Desk
 from effectonce.errors import JobError
 from tests.letter_samples import LETTERS
 from tests.plan_oracles import random_order, random_work
 from tests.samples import ODD_VALUES, WEB, job, nested, random_book
+from tests.world_samples import random_event
 
 COMMAND = ("demand", ("attempt",), ("plus", ("result", "a"), ("value", 2)))
 JUDGES_OF_VALUES = (values.is_value, values.is_name, commands.is_command, books.is_job, books.is_book, books.read_command,
                     books.read_job, books.read_book, webs.judge_book, webs.need_book, days.is_calendar, letters.judge_letter,
-                    letters.is_letter, letters.read_letter)
+                    letters.is_letter, letters.read_letter, scripts.read_event, scripts.read_script)
 
 
 def calls_with(book):
@@ -104,6 +106,48 @@ def calls_with_stores():
         (store.store_hears, one, letter) for letter in LETTERS[:6] + (("grant", 1, "c", 5, 0), ("take", 2))]
 
 
+def some_world():
+    """A world in which there is something of all."""
+    chance = random.Random(52)
+    one = world.new_world(WEB, 3)
+    for _ in range(300):
+        one = world.after(one, random_event(chance, one))
+        if None not in (one["store"], one["keeper"]) and None not in one["hands"].values() and one["keeper"]["holds"] and len(one["air"]) > 4:
+            if [hand for hand in one["hands"].values() if hand["works"]] and one["store"]["ends"]:
+                return one
+    raise AssertionError("no such world came about")
+
+
+def calls_with_worlds():
+    """All functions on machines, keepers, worlds, disks of records and stores as they are judged: those that tell of them, and those that make some."""
+    here = some_world()
+    hand = [each for each in here["hands"].values() if each["works"]][0]
+    fence, one, judged = min(hand["works"]), here["keeper"], here["store"]
+    disk, kept = here["disks"][("store",)], list(disks.words_on(here["disks"][("machine", hand["machine"])]))
+    script = [("hear", 0), ("tick",), ("torn", ("tick",), 3), ("back", ("store",)), ("lapse", "a")]
+    tells = [(recovery.recovered_keeper, here["disks"][("keeper",)]), (recovery.recovered_keeper, disk), (recovery.kept_letters, disk),
+             (keeper.known_free, one), (keeper.idle_machines, one), (keeper.grants_now, one), (keeper.bars_now, one), (keeper.keeper_again, one),
+             (machines.end_letter, hand, WEB, fence), (machines.open_works, hand, WEB), (machines.steps_missing, hand, WEB),
+             (air.taken_out, here["air"], 3), (air.doubled, here["air"], 3), (air.for_whom, here["air"], ("store",)), (world.who_is_down, here),
+             (world.outcomes_now, here), (world.left_over, here), (world.judge_world, here), (checker.told_outcomes, judged),
+             (checker.have_all_ended, judged), (checker.judge_store, judged), (checker.judge_ends, judged), (checker.ready_now, judged),
+             (checker.waited_for, judged), (scripts.event_text, script[2]), (scripts.script_text, script), (scripts.read_script, "tick\ntorn 3 work 1")]
+    tells += [(world.is_event, here, value) for value in [["tick"], ("hear", [0]), ("fall", ["store"]), ("torn", ["tick"], {})] + script]
+    tells += [(each, one, name) for name in "abf" for each in (keeper.known_outcome, keeper.known_results)]
+    tells += [(each, judged, name, value) for name in "abf" for each in (checker.judge_why_now,) for value in ([name], ("may",), {"a": []})]
+    tells += [(checker.why_now, judged, name) for name in "abcdef"]
+    makes = [(recovery.recovered_store, WEB, disk), (recovery.recovered_machine, hand["machine"], here["disks"][("machine", hand["machine"])]),
+             (keeper.new_keeper, WEB, 3, 1), (keeper.keeper_back, WEB, 3, 1), (keeper.keeper_does, one), (keeper.keeper_lapses, one, one["holds"][0][0]),
+             (machines.fresh_machine, 3), (machines.machine_took, hand, "a", 99, 1, ()), (machines.machine_took, hand, "a", fence, 1, ()),
+             (machines.machine_stepped, hand, fence, 3), (machines.machine_stepped, hand, 999, 3), (machines.machine_put_away, hand, fence),
+             (machines.machine_changed, hand, ("gone", 7)), (machines.machine_again, hand["machine"], kept), (machines.machine_works, hand, WEB),
+             (machines.machine_tells, hand, WEB), (world.new_world, WEB, 3), (world.played, here, script), (world.played, here, [script[0], ["tick"]]),
+             (world.calm, here), (world.store_of, here)]
+    makes += [(keeper.keeper_hears, one, letter) for letter in here["air"] + LETTERS]
+    makes += [(machines.machine_hears, hand, WEB, letter) for letter in here["air"] if letters.goes_to(letter)[0] == "machine"]
+    return tells, makes + [(world.after, here, event) for event in script + [("again",), ("fall", ("store",)), ("lose", 1), ("double", 2), ["tick"]]]
+
+
 def answer(call):
     """What a call returns, or the error that it raises, as a value."""
     try:
@@ -125,12 +169,12 @@ class Keeping(unittest.TestCase):
         books_here = [WEB] + [random_book(chance, many) for many in (1, 5, 12)]
         calls = [call for book in books_here for call in calls_with(book)]
         calls += calls_with_plans(chance) + calls_with_plans(chance) + calls_with_series() + calls_with_letters()
-        calls += calls_with_stores()[0]
+        calls += calls_with_stores()[0] + calls_with_worlds()[0]
         odd = ODD_VALUES + ([list(WEB)], (WEB[0], [WEB[1]]), [nested(13, {"a": []})])
         return calls + [(judge, value) for judge in JUDGES_OF_VALUES for value in odd]
 
     def test_no_argument_is_modified(self):
-        for call in self.calls() + calls_with_stores()[1]:
+        for call in self.calls() + calls_with_stores()[1] + calls_with_worlds()[1]:
             before = copy.deepcopy(call[1:])
             answer(call)
             self.assertEqual(repr(call[1:]), repr(before), call[0])
@@ -155,18 +199,36 @@ class Keeping(unittest.TestCase):
             if isinstance(got, tuple):
                 self.assertEqual(lists_in(got[1]), [])
 
+    def test_what_comes_of_worlds_stays_when_more_comes_of_them(self):
+        for call in calls_with_worlds()[1]:
+            due = answer(call)
+            kept = copy.deepcopy(due)
+            for _ in range(2):
+                self.assertEqual(answer(call), kept)
+            self.assertEqual(due, kept)
+
+    def test_lists_of_houses_are_their_own(self):
+        house = Desk(WEB, 2).house()
+        for deed in (("tick",), ("fall", ("keeper",)), ("calm",), ("fall", ("store",))):
+            house.do(deed)
+        shown = (house.deeds(), house.down())
+        due = copy.deepcopy(shown)
+        for each in shown:
+            each.clear()
+        self.assertEqual((house.deeds(), house.down()), due)
+
     def test_equal_calls_give_equal_answers(self):
-        for call in self.calls() + calls_with_stores()[1]:
+        for call in self.calls() + calls_with_stores()[1] + calls_with_worlds()[1]:
             self.assertEqual(answer(call), answer((call[0],) + copy.deepcopy(call[1:])))
 
-    def test_only_chains_are_lists(self):
+    def test_only_chains_scripts_and_who_is_down_are_lists(self):
         for call in self.calls():
-            if call[0] != orders.narrowest:
+            if call[0] not in (orders.narrowest, scripts.read_script, world.who_is_down):
                 self.assertEqual([each for each in lists_in(answer(call)[1]) if answer(call)[0] == "returns"], [])
 
     def test_answers_are_yes_and_no(self):
         for judge in (values.is_value, values.is_name, commands.is_command, books.is_job, books.is_book, days.is_calendar,
-                      letters.is_letter, lambda value: disks.is_record("store", value)):
+                      letters.is_letter, lambda value: disks.is_record("store", value), lambda value: world.is_event(world.new_world(WEB, 1), value)):
             for value in ODD_VALUES + (WEB, WEB[1][0], COMMAND, ("every", 1, 1, None), ("ask", 1), ("tick",), (3, ("ask", 1))):
                 self.assertIn(repr(judge(value)), ("True", "False"))
 

@@ -39,12 +39,33 @@ INTERFACE = {
              "store_hears(store, letter); store_again(book, records)",
     "seals": "word_text(word); read_word(text); check_of(text); sealed(text); records(texts); read_records(text)",
     "disks": "words_on(disk); mended(disk); written(disk, words); torn(disk, words, keep); is_record(who, value)",
+    "recovery": "recovered_store(book, disk); recovered_keeper(disk); recovered_machine(m, disk); kept_letters(disk)",
+    "keeper": "new_keeper(book, machines, epoch); keeper_back(book, machines, last); known_outcome(keeper, job); known_results(keeper, job); "
+              "known_free(keeper); idle_machines(keeper); keeper_does(keeper); grants_now(keeper); bars_now(keeper); "
+              "keeper_hears(keeper, letter); keeper_lapses(keeper, job); keeper_again(keeper)",
+    "machines": "fresh_machine(m); machine_took(machine, job, fence, attempt, results); machine_stepped(machine, fence, steps); "
+                "machine_put_away(machine, fence); machine_changed(machine, record); machine_again(m, records); "
+                "machine_hears(machine, book, letter); end_letter(machine, book, fence); machine_works(machine, book); "
+                "machine_tells(machine, book); open_works(machine, book); steps_missing(machine, book)",
+    "air": "taken_out(air, k); doubled(air, k); for_whom(air, whom)",
+    "world": "new_world(book, machines); is_event(world, value); after(world, event); played(world, script); who_is_down(world); "
+             "store_of(world); outcomes_now(world); calm(world); left_over(world); judge_world(world)",
+    "checker": "told_outcomes(store); have_all_ended(store); judge_store(store); judge_ends(store); why_now(store, job); "
+               "judge_why_now(store, job, value); ready_now(store); waited_for(store)",
+    "scripts": "event_text(event); read_event(text); script_text(script); read_script(text)",
     "letters": "judge_letter(value); is_letter(value); goes_to(letter); letter_text(letter); read_letter(value); "
                "is_answer(letter, answer); unanswered(sent, heard); fields_of(letter)",
 }
+# The classes of the interface, with their methods, each defined in the class itself.
+CLASSES = {
+    "house": ("House", "__init__(book, machines); world(); deeds(); do(deed); undo(); redo(); twin(); outcomes(); left(); down(); held(); "
+                       "stand(); why(job); right()"),
+    "desk": ("Desk", "__init__(book, machines); house(); say(line)"),
+}
 ERRORS = {"JobError": None, "BadText": ["place"], "BadBook": ["number", "word"], "BadScript": ["number"],
           "BadDisk": ["place"], "NothingDone": None, "TooMany": None, "NameTwice": ["name"]}
-ERRORS_BY_FILE = {"books": "BadText", "webs": "BadBook", "orders": "BadBook"}
+ERRORS_BY_FILE = {"books": "BadText", "webs": "BadBook", "orders": "BadBook", "recovery": "BadDisk", "world": "BadScript", "scripts": "BadText",
+                  "house": "BadScript"}
 
 BUILTINS = set(
     "len range enumerate zip min max sum abs sorted reversed int str bool list tuple dict set isinstance ord repr any all "
@@ -136,11 +157,23 @@ class Rules(unittest.TestCase):
                 if isinstance(node, ast.Expr):
                     self.assertIsInstance(node.value, ast.Constant)
                 if isinstance(node, ast.Assign):
-                    ast.literal_eval(node.value)
+                    self.assert_plain(node.value, bound)
                     bound.append(node.targets[0].id)
                 bound += [each.name for each in getattr(node, "names", [])]
                 bound += [node.name] if hasattr(node, "name") else []
             self.assertEqual(len(set(bound)), len(bound), stem)
+
+    def assert_plain(self, value, bound):
+        """A plain value; in dicts there may also be what is defined above."""
+        if isinstance(value, ast.Dict):
+            for key, part in zip(value.keys, value.values):
+                ast.literal_eval(key)
+                if isinstance(part, ast.Name):
+                    self.assertIn(part.id, bound)
+                else:
+                    ast.literal_eval(part)
+        else:
+            ast.literal_eval(value)
 
     def test_statements(self):
         for stem, node in walked():
@@ -196,6 +229,18 @@ class Interface(unittest.TestCase):
                 self.assertIn(name, defined, stem)
                 due = arguments.split(", ") if arguments else []
                 self.assertEqual([each.arg for each in defined[name].args.args], due, name)
+
+    def test_classes(self):
+        for stem, (name, listed) in CLASSES.items():
+            defined = {node.name: node for node in TREES[stem].body if isinstance(node, ast.ClassDef)}[name]
+            methods = {node.name: node for node in defined.body if isinstance(node, ast.FunctionDef)}
+            for row in listed.split("; "):
+                method, _, arguments = row[:-1].partition("(")
+                self.assertIn(method, methods, name)
+                self.assertEqual([each.arg for each in methods[method].args.args], ["self"] + (arguments.split(", ") if arguments else []), method)
+
+    def test_all_files_of_the_document(self):
+        self.assertLessEqual(set(INTERFACE) | set(CLASSES) | {"errors"}, set(TREES))
 
     def test_errors(self):
         classes = {node.name: node for node in TREES["errors"].body if isinstance(node, ast.ClassDef)}
